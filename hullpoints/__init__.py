@@ -1,0 +1,1 @@
+"""Points, and what their hulls have in common: exactly, in whole numbers."""
