@@ -1,6 +1,16 @@
 """How deep a place lies among points, told by the arrows from that place to the points."""
 
-from hullpoints.plane import cross, dot, is_nothing
+from hullpoints.places import telling_places
+from hullpoints.plane import arrows_from, cross, dot, is_nothing
+
+
+def deepest_among(points):
+    """The greatest depth that any place has.
+
+    The places that are so deep at least are what some hulls have in common: those of all sets that leave out
+    fewer points than that. So one of the telling places is among them.
+    """
+    return max([depth_among(arrows_from(place, points)) for place in telling_places(points)])
 
 
 def depth_among(arrows):

@@ -29,6 +29,29 @@ def least_around_with(top, arrows, below):
     return 0
 
 
+def sets_around(arrows):
+    """Sets of at most three points with the place in their hull, so that each set that has it there holds one.
+
+    A triangle with the place on its rim is left out, since it holds one of fewer points.
+    """
+    found = []
+    for top in range(len(arrows)):
+        if is_nothing(arrows[top]):
+            found.append(1 << top)
+        for middle in range(top):
+            if is_between(arrows[middle], arrows[top]):
+                found.append((1 << middle) | (1 << top))
+            for low in range(middle):
+                if is_amid(arrows[low], arrows[middle], arrows[top]):
+                    found.append((1 << low) | (1 << middle) | (1 << top))
+    return found
+
+
+def holds_one(chosen, around):
+    """Whether the set holds all points of one of these sets."""
+    return any([chosen & small == small for small in around])
+
+
 def members_below(bound, members):
     return [member for member in members if member < bound]
 

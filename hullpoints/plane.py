@@ -9,6 +9,10 @@ def arrows_from(place, points):
     return [(point[0] * d - x, point[1] * d - y) for point in points]
 
 
+def arrow_between(start, end):
+    return (end[0] - start[0], end[1] - start[1])
+
+
 def is_nothing(arrow):
     return arrow[0] == 0 and arrow[1] == 0
 

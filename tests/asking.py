@@ -25,6 +25,22 @@ def depth(x, y, d=1):
     return [3, x, y, d]
 
 
+def deepest():
+    return [4]
+
+
+def parted(r):
+    return [5, r]
+
+
+def meet(*sets):
+    return [6, len(sets)] + list(sets)
+
+
+def halves(s, t, u, v, c):
+    return [7, s, t, u, v, c]
+
+
 def split(given):
     """The answers, one list for each call; fails if the counts don't fit the list."""
     rows = []

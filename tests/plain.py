@@ -2,10 +2,13 @@
 
 That a place is in a hull is shown by weights, that it isn't by a line with all points strictly on one side;
 one of the two must be found, so neither is taken on trust.
+
+What hulls have in common is what is left of a great square when all that lies beyond one of them is cut off.
+A corner that is left is shown to be in each hull by weights; that nothing is left shows that there is none.
 """
 
 from fractions import Fraction
-from itertools import combinations
+from itertools import combinations, combinations_with_replacement, permutations, product
 
 
 def members(chosen):
@@ -101,3 +104,116 @@ def depth(points, x, y, d):
         counts.append(sum(1 for turn in turns if turn >= 0))
         counts.append(sum(1 for turn in turns if turn <= 0))
     return [min(counts)]
+
+
+def sides_at(some):
+    """Sides (u, v, c), where u*x + v*y is at most c, whose lines go along or square to two of these, or level or upright.
+
+    A hull is what those of them that hold all its points have in common: of points all over, those along its rim;
+    of points on one straight line, those along it and square to it at its ends; of a lone place, the level and
+    upright ones.
+    """
+    places = sorted(set(some))
+    found = set()
+    for x, y in places:
+        found.update([(1, 0, x), (-1, 0, -x), (0, 1, y), (0, -1, -y)])
+    for p, q in permutations(places, 2):
+        a = q[0] - p[0]
+        b = q[1] - p[1]
+        found.update([(b, -a, b * q[0] - a * q[1]), (a, b, a * q[0] + b * q[1])])
+    return sorted(found)
+
+
+def excess(side, place):
+    return side[0] * place[0] + side[1] * place[1] - side[2]
+
+
+def held(side, some):
+    return sum(1 for p in some if excess(side, p) <= 0)
+
+
+def cut(corners, side):
+    """What is left of a polygon, which may be a stretch or a lone place, when what is beyond the side is cut off."""
+    left = []
+    for at, q in enumerate(corners):
+        p = corners[at - 1]
+        before = excess(side, p)
+        now = excess(side, q)
+        if before * now < 0:
+            share = Fraction(before) / (before - now)
+            left.append((p[0] + share * (q[0] - p[0]), p[1] + share * (q[1] - p[1])))
+        if now <= 0:
+            left.append(q)
+    return left
+
+
+def left_of_all(sides):
+    corners = [(-20000, -20000), (20000, -20000), (20000, 20000), (-20000, 20000)]
+    for side in sides:
+        corners = cut(corners, side)
+    return corners
+
+
+def do_meet(points, sets):
+    """Whether the hulls of these sets have a place in common."""
+    sides = set()
+    for chosen in sets:
+        some = [points[number] for number in members(chosen)]
+        sides.update([side for side in sides_at(some) if held(side, some) == len(some)])
+    corners = left_of_all(sorted(sides))
+    for place in corners[:1]:
+        if not all(sets_around(points, chosen, place) for chosen in sets):
+            raise AssertionError(f"left over, but not in each hull: {points} {sets} {place}")
+    return bool(corners)
+
+
+def depth_at(points, place):
+    d = Fraction(place[0]).denominator * Fraction(place[1]).denominator
+    return depth(points, int(place[0] * d), int(place[1] * d), d)[0]
+
+
+def deepest(points):
+    """A place so deep is in each side that leaves out fewer points than that: else a line through it has too few."""
+    for due in range(len(points), 0, -1):
+        corners = left_of_all([side for side in sides_at(points) if len(points) - held(side, points) < due])
+        if corners:
+            if depth_at(points, corners[0]) < due:
+                raise AssertionError(f"left over, but not so deep: {points} {due} {corners}")
+            return [due]
+    raise AssertionError("a point is 1 deep at least")
+
+
+def parted(points, r):
+    seen = {}
+    for row in product(range(r), repeat=len(points)):
+        if len(set(row)) < r:
+            continue
+        sets = frozenset(sum(2 ** at for at, part in enumerate(row) if part == number) for number in range(r))
+        if sets not in seen:
+            seen[sets] = do_meet(points, sets)
+        if seen[sets]:
+            return [1] + list(row)
+    return [0]
+
+
+def meet(points, *sets):
+    if do_meet(points, set(sets)):
+        return [1]
+    seen = {}
+    for three_of_them in combinations_with_replacement(range(len(sets)), 3):
+        some = frozenset(sets[number] for number in three_of_them)
+        if some not in seen:
+            seen[some] = do_meet(points, some)
+        if not seen[some]:
+            return [0] + list(three_of_them)
+    raise AssertionError(f"no three are apart: {points} {sets}")
+
+
+def halves(points, s, t, u, v, c):
+    for chosen in (s, t):
+        some = [points[number] for number in members(chosen)]
+        one_side = [p for p in some if u * p[0] + v * p[1] > c]
+        other_side = [p for p in some if u * p[0] + v * p[1] < c]
+        if max(len(one_side), len(other_side)) > Fraction(len(some), 2):
+            return [0]
+    return [1]

@@ -18,8 +18,20 @@ CALLS = [
     3, 4, 4, 2,
     0, 0,
     3, 9, 9, 1,
+    4,
+    5, 2,
+    5, 3,
+    5, 5,
+    6, 2, 5, 10,
+    6, 3, 15, 3, 12,
+    6, 0,
+    7, 5, 10, 1, 0, 2,
+    7, 5, 2, 1, 0, 2,
+    7, 5, 10, 0, 0, 2,
+    4,
 ]
-GIVEN = [1, -4, 1, 4, 1, 1, 1, -1, 2, 1, 7, 1, 0, 1, -1, 1, 2, 1, -1, 1, 0]
+GIVEN = [1, -4, 1, 4, 1, 1, 1, -1, 2, 1, 7, 1, 0, 1, -1, 1, 2, 1, -1, 1, 0,
+         1, 2, 5, 1, 0, 1, 0, 1, 1, 0, 1, -1, 1, 1, 4, 0, 0, 1, 2, 1, -1, 1, 1, 1, 0, 1, -1, 1, 2]
 
 
 class Unchangeable(list):
@@ -38,6 +50,11 @@ class Interface(unittest.TestCase):
         self.assertEqual(answers([0, 2, 5, 5]), [1, 1])
         self.assertEqual(answers([0, 0]), [1, -1])
         self.assertEqual(answers([1, 1, 0, 0, 1]), [1, -4])
+        self.assertEqual(answers([4]), [1, -4])
+        self.assertEqual(answers([5, 1]), [1, -4])
+        self.assertEqual(answers([6, 0]), [1, -4])
+        self.assertEqual(answers([6, 2, 1, 1]), [1, -4])
+        self.assertEqual(answers([7, 1, 1, 1, 0, 0]), [1, -4])
 
     def test_30_calls(self):
         calls = [0, 4, 0, 0, 2, 2] + [2, 3, 1, 1, 1] * 29
@@ -52,6 +69,13 @@ class Interface(unittest.TestCase):
         places = [number for k in range(24) for number in (417 * k, 17 * k * k)]
         calls = [0, 48] + places + [2, 2 ** 24 - 1, 2 ** 40, 1, 2 ** 40] * 29
         self.assertEqual(answers(calls), [1, 24] + [1, 0] * 29)
+
+    def test_29_calls_of_deepest_parted_and_meet(self):
+        ring = [0, 100, 78, 62, 97, -22, 43, -90, -43, -90, -97, -22, -78, 62]
+        self.assertEqual(answers([0, 14] + ring + [4] * 29), [1, 7] + [1, 3] * 29)
+        self.assertEqual(answers([0, 12] + ring[:12] + [5, 4] * 29), [1, 6] + [1, 0] * 29)
+        meets = [6, 6, 255, 127, 191, 223, 239, 247]
+        self.assertEqual(answers([0, 16] + ring + [0, 0] + meets * 29), [1, 8] + [1, 1] * 29)
 
     def test_handed_in_stays_the_same(self):
         calls = list(CALLS)
@@ -68,6 +92,7 @@ class Interface(unittest.TestCase):
     def test_nothing_kept_from_one_list_to_the_next(self):
         answers([0, 2, 0, 0])
         self.assertEqual(answers([3, 0, 0, 1]), [1, -4])
+        self.assertEqual(answers([4, 5, 1, 6, 1, 1, 7, 1, 1, 1, 0, 0]), [1, -4] * 4)
 
     def test_lists_of_whole_numbers(self):
         given = answers(list(CALLS))

@@ -32,6 +32,20 @@ WORDS = (
 ).split()
 PARTS = ("dataclass", "overload", "contextmanager")
 
+WALKED = ("range", "zip", "enumerate", "reversed", "items", "keys", "values")
+WALKERS = ("list", "tuple", "dict", "sorted", "sum", "any", "all", "enumerate", "zip")
+KEYWORDS = (
+    ("sorted", "key"), ("sorted", "reverse"), ("min", "key"), ("min", "default"), ("max", "key"), ("max", "default"),
+    ("sum", "start"), ("enumerate", "start"), ("zip", "strict"),
+)
+
+
+def called(node):
+    """The name of the function or method that is called, if this is a call."""
+    if not isinstance(node, ast.Call):
+        return None
+    return node.func.id if isinstance(node.func, ast.Name) else node.func.attr
+
 
 def bound_names(tree):
     names = []
@@ -58,6 +72,13 @@ class Language(unittest.TestCase):
         for name, tree in self.trees.items():
             found.extend([(f"{name}:{getattr(node, 'lineno', '')}", node) for node in ast.walk(tree)])
         return found
+
+    def above(self, node):
+        """The node that this one stands straight within."""
+        for where, outer in self.nodes():
+            if node in list(ast.iter_child_nodes(outer)):
+                return outer
+        return None
 
     def test_files(self):
         others = [path.name for path in PACKAGE.iterdir() if path.suffix != ".py" and path.name != "__pycache__"]
@@ -121,6 +142,57 @@ class Language(unittest.TestCase):
                     self.assertIn(item.name, defined)
                     self.assertIsNone(item.asname)
         self.assertFalse([node for node in self.trees["__init__.py"].body if not isinstance(node, ast.Expr)])
+
+    def test_no_files_draw_from_one_another(self):
+        drawn = {}
+        for name, tree in self.trees.items():
+            rows = [node for node in tree.body if isinstance(node, ast.ImportFrom)]
+            drawn[name] = [row.module.split(".")[1] + ".py" for row in rows]
+        settled = []
+        while len(settled) < len(drawn):
+            free = [name for name in drawn if name not in settled and set(drawn[name]) <= set(settled)]
+            self.assertNotEqual(free, [], "files that draw from one another")
+            settled.extend(free)
+
+    def test_walked_at_once(self):
+        for where, node in self.nodes():
+            if called(node) not in WALKED:
+                continue
+            above = self.above(node)
+            at_once = isinstance(above, (ast.For, ast.comprehension)) and above.iter is node
+            taken = called(above) in WALKERS and above.args[0] is node
+            alone = called(above) in ("min", "max") and above.args == [node]
+            self.assertTrue(at_once or taken or alone, where)
+
+    def test_sets(self):
+        for where, node in self.nodes():
+            if called(node) == "set":
+                above = self.above(node)
+                self.assertIn(called(above), ("sorted", "len"), where)
+                self.assertEqual(above.keywords, [], where)
+
+    def test_keywords(self):
+        for where, node in self.nodes():
+            if isinstance(node, ast.Call):
+                for keyword in node.keywords:
+                    self.assertIn((called(node), keyword.arg), KEYWORDS, where)
+
+    def test_texts(self):
+        for where, node in self.nodes():
+            if isinstance(node, ast.Constant) and isinstance(node.value, str):
+                self.assertNotIn("%", node.value, where)
+
+    def test_locals_are_not_called_like_classes_and_imports(self):
+        for name, tree in self.trees.items():
+            taken = [item.name for item in tree.body if isinstance(item, ast.ClassDef)]
+            for node in tree.body:
+                if isinstance(node, ast.ImportFrom):
+                    taken.extend([item.name for item in node.names])
+            for node in ast.walk(tree):
+                if isinstance(node, ast.arg):
+                    self.assertNotIn(node.arg, taken, name)
+                if isinstance(node, ast.Name) and isinstance(node.ctx, ast.Store):
+                    self.assertNotIn(node.id, taken, name)
 
     def test_tops(self):
         for name, tree in self.trees.items():
